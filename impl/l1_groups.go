@@ -134,3 +134,27 @@ func ExponentBack(g int, n int) int {
 	}
 	return -1
 }
+
+// quotient divides differences of exponents of a group, of which the second one is not 0 by the order, as it is told by two answers.
+func quotient(g int, n int, by int) int {
+	order := groups[g].order
+	return remainder(n*ExponentBack(g, remainder(by, order)), order)
+}
+
+func elementsOk(g int, list []int) bool {
+	for _, a := range list {
+		if !ElementOk(g, a) {
+			return false
+		}
+	}
+	return true
+}
+
+func exponentsOk(g int, list []int) bool {
+	for _, n := range list {
+		if !ExponentOk(g, n) {
+			return false
+		}
+	}
+	return true
+}
