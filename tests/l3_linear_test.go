@@ -904,11 +904,10 @@ func TestRelationsAreNewMemory(t *testing.T) {
 			impl.Solves(c, solving)
 			impl.WordsOk(c, a)
 			impl.AnswersMany(c, a.Says)
-			wantList(t, "RowsMake", made, first.Says, c, further)
-			wantWords(t, "WordsOf", of, true, known, c, exps, further)
-			wantWords(t, "WordsMade", up, true, known, c)
-			wantList(t, "ExponentsFrom", from, exps, c)
-			for _, result := range [][]int{made, of.Says, of.Tells, up.Says, up.Tells, from} {
+			results := [][]int{made, of.Says, of.Tells, up.Says, up.Tells, from}
+			rights := [][]int{first.Says, known.Says, known.Tells, known.Says, known.Tells, exps}
+			for i, result := range results {
+				wantList(t, "the result after those before were written over, ", result, rights[i], c, i)
 				spoil(result)
 			}
 			for i, row := range list {
