@@ -824,26 +824,36 @@ func TestTurnsOfOtherGraphs(t *testing.T) {
 	}
 }
 
-func TestP35TrueTalksOfOrdersTellNothing(t *testing.T) {
-	for _, p := range append(twosLed(smallGraphs(), 2), twosLed(graphsTried(15)[75:], 1)...) {
-		g, h := p.graphs()
-		between, orders := p.between(), ordersKnown[p.points()]
-		for _, tell := range some(orders, 24) {
-			for ask := range 2 {
-				made, ok := impl.TurnMade(g, h, ask, tell)
-				wantTurn(t, "TurnMade", made, ok, p.right(ask, tell), g, h, ask, tell)
-				wantTurnOk(t, g, h, made, true)
-				for _, known := range some(between, 6) {
-					many := 0
-					for _, further := range orders {
-						if talk, ok := impl.TurnOf(g, h, known, further, ask); ok && sameTurns(talk, made) {
-							many++
-						}
+// wantOneFurther makes talks up, and counts for orders that lead the first graph to the second one which further orders make them true: one for each.
+func (p twoKnown) wantOneFurther(t *testing.T, tells [][]int, between [][]int) {
+	t.Helper()
+	g, h := p.graphs()
+	for _, tell := range tells {
+		for ask := range 2 {
+			made, ok := impl.TurnMade(g, h, ask, tell)
+			wantTurn(t, "TurnMade", made, ok, p.right(ask, tell), g, h, ask, tell)
+			wantTurnOk(t, g, h, made, true)
+			for _, known := range between {
+				many := 0
+				for _, further := range ordersKnown[p.points()] {
+					if talk, ok := impl.TurnOf(g, h, known, further, ask); ok && sameTurns(talk, made) {
+						many++
 					}
-					wantNumber(t, fmt.Sprint("further orders for ", made, " on ", g, h, known), many, 1)
 				}
+				wantNumber(t, fmt.Sprint("further orders for ", made, " on ", g, h, known), many, 1)
 			}
 		}
+	}
+}
+
+// TestP35TrueTalksOfOrdersTellNothing takes pairs without an order between them, too: there it is only to be right.
+func TestP35TrueTalksOfOrdersTellNothing(t *testing.T) {
+	few := slices.Concat(graphsOf(1), graphsOf(2), graphsOf(3))
+	for _, p := range slices.Concat(twosOf(few), some(twosOf(graphsOf(4)), 200), twosLed(graphsOf(4), 2)) {
+		p.wantOneFurther(t, ordersKnown[p.points()], p.between())
+	}
+	for _, p := range append(twosLed(graphsTried(15)[75:], 1), some(twosOf(graphsOf(5)[:200]), 50)...) {
+		p.wantOneFurther(t, some(ordersKnown[p.points()], 20), some(p.between(), 5))
 	}
 }
 
