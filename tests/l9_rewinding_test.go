@@ -191,7 +191,6 @@ func wantKeptBy(t *testing.T, g int, key int, asker []int, want []impl.Talk, wan
 	}
 }
 
-// wantNotHeard holds that neither who knows an exponent nor who knows nothing has talks.
 func wantNotHeard(t *testing.T, g int, n int, asker []int) {
 	t.Helper()
 	if got := impl.HeardFrom(g, n, asker); got != nil {
